@@ -1,0 +1,1 @@
+"""Choicerows: testing properties on rows of choices."""

@@ -1,0 +1,65 @@
+"""The interface as it is written, and those rules on the package's files that can be looked up in them."""
+
+import ast
+import importlib
+import inspect
+import pathlib
+import unittest
+import warnings
+
+PACKAGE = pathlib.Path(__file__).resolve().parent.parent / "choicerows"
+FILES = sorted(PACKAGE.rglob("*.py"))
+LIBRARY = {"heapq", "math", "itertools", "collections"}
+FUNCTIONS = {
+    "choicerows.conditions": {
+        "is_of_kind": ["value", "kind"], "fits": ["condition", "kind"], "holds": ["condition", "value"],
+    },
+}
+
+
+class Interface(unittest.TestCase):
+    def test_functions_are_defined_in_their_files_with_their_arguments(self):
+        for module_name, functions in FUNCTIONS.items():
+            module = importlib.import_module(module_name)
+            for name, arguments in functions.items():
+                function = getattr(module, name)
+                self.assertEqual(function.__module__, module_name)
+                self.assertEqual(list(inspect.signature(function).parameters), arguments)
+
+
+class Files(unittest.TestCase):
+    def test_the_folder_holds_only_python_files(self):
+        for path in PACKAGE.rglob("*"):
+            if path.name != "__pycache__" and path.parent.name != "__pycache__":
+                self.assertTrue(path.is_dir() or path.suffix == ".py", path)
+        self.assertIn(PACKAGE / "__init__.py", FILES)
+
+    def test_no_clock_no_random_numbers_and_no_files(self):
+        for path in FILES:
+            for node in ast.walk(ast.parse(path.read_text())):
+                self.assertNotIsInstance(node, ast.Import, path)
+                if isinstance(node, ast.ImportFrom):
+                    self.assertEqual(node.level, 0, path)
+                    self.assertIn(node.module.split(".")[0], LIBRARY | {"choicerows"}, path)
+                if isinstance(node, ast.Name):
+                    self.assertNotIn(node.id, ("open", "input", "print", "eval", "exec", "compile"), path)
+
+    def test_sizes_and_characters(self):
+        for path in FILES:
+            text = path.read_text()
+            self.assertLessEqual(len(text.splitlines()), 399, path)
+            self.assertLessEqual(max(map(len, text.splitlines())), 120, path)
+            self.assertTrue(all(" " <= sign <= "~" or sign == "\n" for sign in text), path)
+            for node in ast.walk(ast.parse(text)):
+                if isinstance(node, ast.FunctionDef):
+                    self.assertLessEqual(node.end_lineno - node.lineno + 1, 40, (path, node.name))
+
+    def test_python_gives_no_warning(self):
+        with warnings.catch_warnings():
+            warnings.simplefilter("error")
+            for path in FILES:
+                compile(path.read_text(), str(path), "exec")
+
+
+if __name__ == "__main__":
+    unittest.main()
