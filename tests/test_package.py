@@ -14,6 +14,23 @@ FUNCTIONS = {
     "choicerows.conditions": {
         "is_of_kind": ["value", "kind"], "fits": ["condition", "kind"], "holds": ["condition", "value"],
     },
+    "choicerows.generators": {
+        "kind_of": ["generator"], "kind_behind": ["some_map", "kind"], "turn": ["some_map", "value"],
+        "merged": ["generator"], "is_plain": ["generator"],
+    },
+    "choicerows.gentext": {
+        "format_generator": ["generator"], "format_condition": ["condition"], "read_generator": ["text"],
+        "read_condition": ["text"],
+    },
+    "choicerows.drawing": {
+        "draw": ["generator", "row"], "is_exact": ["generator", "row"], "value_of": ["generator", "row"],
+    },
+    "choicerows.tables": {
+        "table": ["generator"], "values_of": ["generator"], "least_row": ["generator", "value"],
+        "count_rows": ["generator"], "chance": ["generator", "value"], "refused_chance": ["generator"],
+        "first_rows": ["generator", "many"], "draw_equally": ["generator", "other"],
+        "make_equally": ["generator", "other"],
+    },
 }
 
 
