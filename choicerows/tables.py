@@ -3,12 +3,12 @@
 from choicerows.errors import GeneratorError
 from choicerows.generators import kind_of, parts_in
 from choicerows.limits import EXACT, VALUES
-from choicerows.ways import added, count_joined, in_order, one_chance, one_row, reduced, together, ways
+from choicerows.ways import added, count_joined, counted, in_order, one_chance, one_row, reduced, together, ways
 
 
 def table(generator):
     """Return the triples (value, count, least row) of all values that a generator draws, ordered by the rows."""
-    return [(value, weight[0], row) for value, weight, row in _weighed(generator, one_row)]
+    return counted(_weighed(generator, one_row))
 
 
 def values_of(generator):
@@ -29,19 +29,24 @@ def count_rows(generator):
     return sum([triple[1] for triple in table(generator)])
 
 
+def chances(generator):
+    """Return the pairs (value, chance) of all values that a generator draws, in the order of the table."""
+    return [(value, weight) for value, weight, _ in _weighed(generator, one_chance)]
+
+
 def chance(generator, value):
     """Return the chance of a value as a pair in lowest terms; (0, 1) if it is not drawn."""
-    for drawn, weight, _ in _weighed(generator, one_chance):
+    for drawn, number in chances(generator):
         if drawn == value:
-            return weight
+            return number
     return (0, 1)
 
 
 def refused_chance(generator):
     """Return the chance of a refused draw as a pair in lowest terms."""
     total = (0, 1)
-    for triple in _weighed(generator, one_chance):
-        total = added(total, triple[1])
+    for _, number in chances(generator):
+        total = added(total, number)
     top, bottom = total
     return reduced(bottom - top, bottom)
 

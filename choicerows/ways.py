@@ -9,6 +9,7 @@ from math import gcd
 from choicerows.conditions import holds
 from choicerows.generators import turn
 from choicerows.limits import LONG
+from choicerows.rows import rank
 
 SURE = (1, 1)
 
@@ -39,13 +40,23 @@ def one_chance(bound):
     return (1, bound + 1)
 
 
+def counted(triples):
+    """Return a list of triples with the counts that their weights are."""
+    return [(value, weight[0], row) for value, weight, row in triples]
+
+
+def weighed(triples):
+    """Return a list of triples with counts as a table, in which the counts are weights."""
+    return [(value, (count, 1), row) for value, count, row in triples]
+
+
 def in_order(triples):
     """Return a list of triples, ordered by their rows."""
     return sorted(triples, key=_rank)
 
 
 def _rank(triple):
-    return (len(triple[2]), triple[2])
+    return rank(triple[2])
 
 
 def together(triples):

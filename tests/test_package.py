@@ -1,13 +1,16 @@
 """The interface as it is written, and those rules on the package's files that can be looked up in them."""
 
 import ast
+import doctest
 import importlib
 import inspect
 import pathlib
 import unittest
 import warnings
 
-PACKAGE = pathlib.Path(__file__).resolve().parent.parent / "choicerows"
+TOP = pathlib.Path(__file__).resolve().parent.parent
+README = TOP / "README.md"
+PACKAGE = TOP / "choicerows"
 FILES = sorted(PACKAGE.rglob("*.py"))
 LIBRARY = {"heapq", "math", "itertools", "collections"}
 FUNCTIONS = {
@@ -31,6 +34,16 @@ FUNCTIONS = {
         "first_rows": ["generator", "many"], "draw_equally": ["generator", "other"],
         "make_equally": ["generator", "other"],
     },
+    "choicerows.rows": {
+        "is_less": ["row", "other"], "sorted_rows": ["rows"], "is_prefix_free": ["rows"],
+    },
+    "choicerows.trials": {
+        "is_test": ["generator", "condition"], "says": ["test", "row"], "told_longer": ["test", "row"],
+        "least_failing": ["test"], "failures": ["test"], "failing_chance": ["test"],
+    },
+    "choicerows.ledgers": {
+        "parts_of": ["generator"], "ledger": ["generator"], "is_right_ledger": ["generator", "some_ledger"],
+    },
 }
 
 
@@ -42,6 +55,16 @@ class Interface(unittest.TestCase):
                 function = getattr(module, name)
                 self.assertEqual(function.__module__, module_name)
                 self.assertEqual(list(inspect.signature(function).parameters), arguments)
+
+
+class Readme(unittest.TestCase):
+    def test_its_examples(self):
+        # The fence behind an example would count as what is expected of it.
+        text = README.read_text().replace("```", "")
+        examples = doctest.DocTestParser().get_doctest(text, {}, "README.md", str(README), 0)
+        found = doctest.DocTestRunner().run(examples)
+        self.assertGreater(found.attempted, 20)
+        self.assertEqual(found.failed, 0)
 
 
 class Files(unittest.TestCase):
