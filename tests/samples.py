@@ -1,8 +1,11 @@
-"""Generators to try things on, and all draws of a generator, found choice by choice."""
+"""Generators, tests and machines to try things on, and all that they draw, found choice by choice."""
 
 from fractions import Fraction
 
+from choicerows.conditions import fits
 from choicerows.drawing import draw
+from choicerows.generators import kind_of
+from choicerows.machines import run_machine
 
 DIGIT = ("int", 0, 9)
 BIT = ("int", 0, 1)
@@ -33,16 +36,31 @@ SMALL = [
 ]
 
 
-def all_draws(generator):
+CONDITIONS = [
+    ("atmost", 0), ("atmost", -9), ("atmost", 999), ("divides", 2), ("is", "a"), ("is", "z"), ("item", 0, ("atmost", 0)),
+    ("item", 1, ("is", "b")), ("every", ("atmost", 0)), ("some", ("atmost", 0)), ("some", ("divides", 3)),
+    ("size", ("atmost", 1)), ("size", ("not", ("atmost", 1))), ("sum", ("divides", 2)), ("rising",), ("different",),
+    ("not", ("different",)), ("not", ("is", "a")), ("and", ("divides", 2), ("not", ("atmost", 2))),
+    ("or", ("rising",), ("size", ("atmost", 2))),
+]
+
+
+def small_tests():
+    """All tests of the small generators and the conditions above."""
+    return [(generator, condition) for generator in SMALL for condition in CONDITIONS
+            if fits(condition, kind_of(generator))]
+
+
+def all_outcomes(drawn):
     """Return (row, outcome, chance) for every row that is used up by a value or by being refused."""
     found = []
     open_rows = [((), Fraction(1))]
     while open_rows:
         row, chance = open_rows.pop()
-        outcome = draw(generator, row)
+        outcome = drawn(row)
         if outcome == ("short", len(row)):
             bound = 0
-            while draw(generator, row + (bound + 1,)) != ("wrong", len(row)):
+            while drawn(row + (bound + 1,)) != ("wrong", len(row)):
                 bound += 1
             open_rows.extend((row + (choice,), chance / (bound + 1)) for choice in range(bound + 1))
         else:
@@ -50,6 +68,17 @@ def all_draws(generator):
     return sorted(found, key=lambda told: (len(told[0]), told[0]))
 
 
+def all_draws(generator):
+    """Return all outcomes of a generator."""
+    return all_outcomes(lambda row: draw(generator, row))
+
+
 def exact_draws(generator):
     """Return (row, value, chance) for every exact row, in order."""
     return [(row, outcome[1], chance) for row, outcome, chance in all_draws(generator) if outcome[0] == "value"]
+
+
+def exact_runs(some_machine):
+    """Return (row, value) for every exact row of a machine, in order."""
+    told = all_outcomes(lambda row: run_machine(some_machine, row))
+    return [(row, outcome[1]) for row, outcome, _ in told if outcome[0] == "value"]

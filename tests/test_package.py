@@ -8,6 +8,8 @@ import pathlib
 import unittest
 import warnings
 
+from choicerows.books import Book
+
 TOP = pathlib.Path(__file__).resolve().parent.parent
 README = TOP / "README.md"
 PACKAGE = TOP / "choicerows"
@@ -44,6 +46,26 @@ FUNCTIONS = {
     "choicerows.ledgers": {
         "parts_of": ["generator"], "ledger": ["generator"], "is_right_ledger": ["generator", "some_ledger"],
     },
+    "choicerows.shrinking": {
+        "candidates": ["row"], "left_by": ["generator", "row"], "step": ["test", "row"], "is_settled": ["test", "row"],
+        "course": ["test", "row"], "waste": ["test"],
+    },
+    "choicerows.machines": {
+        "machine": ["first", "commands", "most"], "run_machine": ["some_machine", "row"],
+        "does_fail": ["some_machine", "invariant", "row"], "least_run": ["some_machine", "invariant"],
+        "reachable": ["some_machine"],
+    },
+    "choicerows.books": {
+        "replayed": ["log"],
+    },
+    "choicerows.courts": {
+        "about_test": ["test"], "about_row": ["test", "row"], "about_machine": ["some_machine", "invariant"],
+        "judge": ["claim"], "judge_all": ["claims"],
+    },
+}
+METHODS = {
+    "put": ["name", "generator", "condition"], "note": ["name", "row"], "forget": ["name"], "shrink": ["name"],
+    "undo": [], "test_of": ["name"], "rows_of": ["name"], "state": ["name"], "best": ["name"], "branch": [],
 }
 
 
@@ -55,6 +77,17 @@ class Interface(unittest.TestCase):
                 function = getattr(module, name)
                 self.assertEqual(function.__module__, module_name)
                 self.assertEqual(list(inspect.signature(function).parameters), arguments)
+
+
+    def test_methods_are_defined_in_the_class_itself(self):
+        self.assertEqual(Book.__module__, "choicerows.books")
+        self.assertEqual(list(inspect.signature(Book).parameters), [])
+        for name, arguments in METHODS.items():
+            self.assertEqual(list(inspect.signature(Book.__dict__[name]).parameters), ["self"] + arguments)
+        for name in ("__len__", "__contains__", "__eq__"):
+            self.assertIn(name, Book.__dict__)
+        for name in ("names", "log"):
+            self.assertIsInstance(Book.__dict__[name], property)
 
 
 class Readme(unittest.TestCase):

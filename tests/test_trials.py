@@ -2,13 +2,12 @@ import unittest
 from fractions import Fraction
 from math import gcd
 
-from choicerows.conditions import fits, holds
+from choicerows.conditions import holds
 from choicerows.errors import GeneratorError
-from choicerows.generators import kind_of
 from choicerows.gentext import read_condition, read_generator
 from choicerows.tables import table
 from choicerows.trials import failing_chance, failures, is_test, least_failing, says, told_longer
-from samples import SMALL, all_draws, exact_draws
+from samples import all_draws, exact_draws, small_tests
 
 BIT = ("int", 0, 1)
 DIGIT = ("int", 0, 9)
@@ -16,18 +15,6 @@ BITS = ("list", BIT, 0, 3)
 GREAT = ("int", -1000, 1000)
 FULL = ("int", -999, 1000)
 NOTHING = ("kept", BIT, ("atmost", -1))
-CONDITIONS = [
-    ("atmost", 0), ("atmost", -9), ("atmost", 999), ("divides", 2), ("is", "a"), ("is", "z"), ("item", 0, ("atmost", 0)),
-    ("item", 1, ("is", "b")), ("every", ("atmost", 0)), ("some", ("atmost", 0)), ("some", ("divides", 3)),
-    ("size", ("atmost", 1)), ("size", ("not", ("atmost", 1))), ("sum", ("divides", 2)), ("rising",), ("different",),
-    ("not", ("different",)), ("not", ("is", "a")), ("and", ("divides", 2), ("not", ("atmost", 2))),
-    ("or", ("rising",), ("size", ("atmost", 2))),
-]
-
-
-def small_tests():
-    return [(generator, condition) for generator in SMALL for condition in CONDITIONS
-            if fits(condition, kind_of(generator))]
 
 
 class Tests(unittest.TestCase):
