@@ -145,6 +145,11 @@ class Courses(Checks):
         self.check(True, "course", TEST, ((7,), (6,), (5,), (4,)))
         self.check(False, "course", TEST, ((7,), (6,), (5,)))
 
+    def test_a_first_row_that_does_not_fail(self):
+        # The rows behind the first one would be those to which steps go.
+        self.check(False, "course", TEST, [(10,), (5,), (4,)])
+        self.check(False, "course", TEST, [(4, 0), (4,)])
+
     def test_other_rows(self):
         for rows in [[], [(7,)], [(7,), (4,)], [(7,), (6,), (5,)], [(6,), (7,), (5,), (4,)], [(7,), (6,), (5,), (4,), (4,)],
                      [(7,), (6,), (5,), (4,), (3,)], [(3,)], [(3,), (2,)], [()], [(10,)], [(7, 0), (6,), (5,), (4,)]]:
